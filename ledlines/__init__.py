@@ -1,0 +1,1 @@
+"""Ledlines: drawings that are led to a grid."""

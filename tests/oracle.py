@@ -1,0 +1,104 @@
+"""What pieces have in common, and the cells on their way, told by fractions and by stretches of a piece's way.
+
+The program goes about both otherwise: by cross products in integers, and by the borders of cells that are reached.
+"""
+
+from fractions import Fraction
+
+
+class Stretch:
+    """All shares of a piece's way, from 0 to 1, between two bounds that belong to it or do not."""
+
+    def __init__(self):
+        self.low, self.has_low = Fraction(0), True
+        self.high, self.has_high = Fraction(1), True
+
+    def from_on(self, low, belongs):
+        if (low, not belongs) > (self.low, not self.has_low):
+            self.low, self.has_low = low, belongs
+
+    def up_to(self, high, belongs):
+        if (high, belongs) < (self.high, self.has_high):
+            self.high, self.has_high = high, belongs
+
+    def leave_nothing(self):
+        self.up_to(Fraction(-1), True)
+
+    def is_empty(self):
+        return self.low > self.high or (self.low == self.high and not (self.has_low and self.has_high))
+
+    def keep_between(self, start, way, low, high, has_high):
+        """Keep what has start + share * way from low on and below high, or up to it."""
+        if way == 0:
+            if not (low <= start < high or (has_high and start == high)):
+                self.leave_nothing()
+        elif way > 0:
+            self.from_on(Fraction(low - start, way), True)
+            self.up_to(Fraction(high - start, way), has_high)
+        else:
+            self.up_to(Fraction(low - start, way), True)
+            self.from_on(Fraction(high - start, way), has_high)
+
+
+def shared(one, other):
+    """Return what two pieces share: no points, a point as the document writes it, or "more"."""
+    x, y, x2, y2 = one
+    u, v, u2, v2 = other
+    stretch = Stretch()
+    at_start = (x - u) * (v2 - v) - (y - v) * (u2 - u)
+    along = (x2 - x) * (v2 - v) - (y2 - y) * (u2 - u)
+    stretch.keep_between(at_start, along, 0, 0, True)
+    stretch.keep_between(x, x2 - x, min(u, u2), max(u, u2), True)
+    stretch.keep_between(y, y2 - y, min(v, v2), max(v, v2), True)
+    if stretch.is_empty():
+        return None
+    if stretch.low < stretch.high:
+        return "more"
+    point = (x + stretch.low * (x2 - x), y + stretch.low * (y2 - y))
+    return tuple((value.numerator, value.denominator) for value in point)
+
+
+def cells_on(piece, half):
+    """Return the tuple of all cells in which a point of a piece lies, in the order of its way."""
+    x, y, x2, y2 = piece
+    found = []
+    for i in range(max(x, x2) // (2 * half) + 2):
+        for j in range(max(y, y2) // (2 * half) + 2):
+            stretch = Stretch()
+            stretch.keep_between(x, x2 - x, (2 * i - 1) * half, (2 * i + 1) * half, False)
+            stretch.keep_between(y, y2 - y, (2 * j - 1) * half, (2 * j + 1) * half, False)
+            if not stretch.is_empty():
+                found.append((stretch.low + stretch.high, (i, j)))
+    return tuple(cell for _, cell in sorted(found))
+
+
+def number_in(value, half):
+    """Return the first or second number of the only cells in which a coordinate lies."""
+    inside = [k for k in range(32) if -half <= value - 2 * k * half < half]
+    assert len(inside) == 1
+    return inside[0]
+
+
+def cell_of(point, half):
+    """Return the cell in which a point lies, a tuple of two fractions as the document writes them."""
+    return tuple(number_in(Fraction(*value), half) for value in point)
+
+
+def reasons(pieces, half):
+    """Return the dict of all hot cells and their reasons."""
+    found = {}
+    for index, (x, y, x2, y2) in enumerate(pieces):
+        for end, place in enumerate(((x, y), (x2, y2))):
+            cell = tuple(number_in(value, half) for value in place)
+            found.setdefault(cell, []).append((index, end))
+        for before in range(index):
+            point = shared(pieces[before], pieces[index])
+            if point is not None:
+                found.setdefault(cell_of(point, half), []).append((before, index, 2))
+    return {cell: tuple(sorted(found[cell])) for cell in sorted(found)}
+
+
+def pieces_up_to(size):
+    """Return all pieces with coordinates from 0 to a size."""
+    values = range(size + 1)
+    return [(x, y, x2, y2) for x in values for y in values for x2 in values for y2 in values if (x, y) != (x2, y2)]

@@ -1,0 +1,87 @@
+"""Rules of the language subset that can be told from the text of the package's files."""
+
+import ast
+import builtins
+import pathlib
+import unittest
+
+FOLDER = pathlib.Path(__file__).resolve().parent.parent / "ledlines"
+PATHS = sorted(FOLDER.rglob("*.py"))
+BUILTINS = set("""
+    len range enumerate zip min max sum abs sorted reversed int str bool bytes list tuple dict set frozenset isinstance
+    ord repr any all divmod pow getattr hasattr setattr iter next map property super classmethod staticmethod Exception
+    ValueError TypeError KeyError IndexError LookupError ZeroDivisionError ArithmeticError OverflowError RuntimeError
+    NotImplementedError AttributeError StopIteration NotImplemented
+""".split())
+METHODS = set("""
+    append clear copy count endswith extend find get index insert isalnum isalpha isdigit islower isspace isupper items
+    join keys ljust lower lstrip partition pop remove replace reverse rfind rjust rpartition rsplit rstrip setdefault
+    split splitlines startswith strip update upper values zfill bit_length add discard
+""".split())
+LIBRARY = {"heapq", "math", "itertools", "collections"}
+BARRED = (ast.GeneratorExp, ast.Global, ast.AsyncFunctionDef, ast.Await, ast.Import, ast.Div, ast.AnnAssign)
+
+
+def trees():
+    return [(path.name, ast.parse(path.read_text(encoding="ascii"))) for path in PATHS]
+
+
+def nodes(kind):
+    return [(name, node) for name, tree in trees() for node in ast.walk(tree) if isinstance(node, kind)]
+
+
+class LanguageTest(unittest.TestCase):
+    def test_the_folder_contains_python_files_only(self):
+        found = [path for path in FOLDER.rglob("*") if path.is_file() and path.suffix != ".pyc"]
+        self.assertEqual(sorted(found), PATHS)
+        self.assertIn(FOLDER / "__init__.py", PATHS)
+
+    def test_characters_and_sizes(self):
+        for path in PATHS:
+            text = path.read_text(encoding="ascii")
+            rows = text.split("\n")
+            self.assertLess(len(rows), 400, path.name)
+            for number, row in enumerate(rows, 1):
+                self.assertTrue(len(row) <= 120 and all(" " <= sign <= "~" for sign in row), (path.name, number))
+
+    def test_lengths_of_functions(self):
+        for name, node in nodes(ast.FunctionDef):
+            self.assertLessEqual(node.end_lineno - node.lineno + 1, 40, (name, node.name))
+            for decorator in node.decorator_list:
+                self.assertIn(ast.unparse(decorator).split(".")[-1],
+                              ("property", "setter", "staticmethod", "classmethod"), (name, node.name))
+
+    def test_imports(self):
+        for name, node in nodes(ast.ImportFrom):
+            self.assertTrue(node.level == 0 and (node.module in LIBRARY or node.module.startswith("ledlines.")), name)
+            self.assertTrue(all(alias.name != "*" and alias.asname is None for alias in node.names), name)
+
+    def test_module_level(self):
+        allowed = (ast.ImportFrom, ast.FunctionDef, ast.ClassDef, ast.Assign)
+        for name, tree in trees():
+            self.assertIsNotNone(ast.get_docstring(tree), name)
+            for node in tree.body[1:]:
+                self.assertIsInstance(node, allowed, name)
+
+    def test_barred_expressions_and_statements(self):
+        self.assertEqual([(name, node.lineno) for name, node in nodes(BARRED)], [])
+        values = [(name, node.value) for name, node in nodes(ast.Constant)]
+        self.assertEqual([found for found in values if isinstance(found[1], (float, complex))], [])
+        self.assertEqual([found for found in values if isinstance(found[1], str) and "\x25" in found[1]], [])
+
+    def test_builtins(self):
+        for name, node in nodes(ast.Name):
+            if node.id in dir(builtins):
+                self.assertTrue(node.id in BUILTINS and isinstance(node.ctx, ast.Load), (name, node.lineno, node.id))
+        for name, node in nodes((ast.arg, ast.FunctionDef, ast.ClassDef)):
+            self.assertNotIn(getattr(node, "arg", getattr(node, "name", None)), dir(builtins), name)
+
+    def test_methods(self):
+        own = {node.name for _, node in nodes(ast.FunctionDef)} | {"__init__"}
+        for name, node in nodes(ast.Call):
+            if isinstance(node.func, ast.Attribute):
+                self.assertIn(node.func.attr, METHODS | own, (name, node.lineno))
+
+
+if __name__ == "__main__":
+    unittest.main()
