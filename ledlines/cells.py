@@ -12,6 +12,11 @@ def check_half(half):
         raise InvalidHalf("a half is a number from 1 to 30")
 
 
+def all_halves():
+    """Return the ascending list of the halves of all grids."""
+    return list(range(1, GREATEST_HALF + 1))
+
+
 def cell_number(coordinate, half):
     """Return the first or second number of the cells in which a coordinate, a fraction, lies."""
     numerator, denominator = coordinate

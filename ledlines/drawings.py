@@ -42,6 +42,14 @@ def check_index(drawing, index):
         raise UnknownPiece("no piece of the drawing has this index")
 
 
+def check_pair(drawing, one, other):
+    """Raise UnknownPiece or SamePiece for what is no pair of indexes of different pieces."""
+    check_index(drawing, one)
+    check_index(drawing, other)
+    if one == other:
+        raise SamePiece("two different pieces are needed")
+
+
 def index_pairs(many):
     """Return the ascending list of all pairs of indexes below a number, the lesser one first."""
     return [(one, other) for one in range(many) for other in range(one + 1, many)]
@@ -125,10 +133,7 @@ def piece_meeting(one, other):
 
 def meeting(drawing, one, other):
     """Return the point that two pieces have in common, None if there is none."""
-    check_index(drawing, one)
-    check_index(drawing, other)
-    if one == other:
-        raise SamePiece("two different pieces are needed")
+    check_pair(drawing, one, other)
     return piece_meeting(drawing.pieces[one], drawing.pieces[other])
 
 
@@ -137,11 +142,17 @@ def numerator_over(fraction, denominator):
     return fraction[0] * (denominator // fraction[1])
 
 
-def by_value(points):
-    """Return the list of points in ascending order of the values of their fractions."""
+def common_denominator(points):
+    """Return the least denominator to which all fractions of points can be extended."""
     common = 1
     for x, y in points:
         common = lcm(common, x[1], y[1])
+    return common
+
+
+def by_value(points):
+    """Return the list of points in ascending order of the values of their fractions."""
+    common = common_denominator(points)
     return sorted(points, key=lambda point: (numerator_over(point[0], common), numerator_over(point[1], common)))
 
 

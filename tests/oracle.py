@@ -1,9 +1,12 @@
 """What pieces have in common, and the cells on their way, told by fractions and by stretches of a piece's way.
 
-The program goes about both otherwise: by cross products in integers, and by the borders of cells that are reached.
+What follows from both is told from these, too: hot cells, chains, and what falls together. The program goes about
+it otherwise: by cross products in integers, and by the borders of cells that are reached.
 """
 
 from fractions import Fraction
+from functools import cache
+from itertools import groupby, pairwise
 
 
 class Stretch:
@@ -58,6 +61,7 @@ def shared(one, other):
     return tuple((value.numerator, value.denominator) for value in point)
 
 
+@cache
 def cells_on(piece, half):
     """Return the tuple of all cells in which a point of a piece lies, in the order of its way."""
     x, y, x2, y2 = piece
@@ -102,3 +106,55 @@ def pieces_up_to(size):
     """Return all pieces with coordinates from 0 to a size."""
     values = range(size + 1)
     return [(x, y, x2, y2) for x in values for y in values for x2 in values for y2 in values if (x, y) != (x2, y2)]
+
+
+def hot_on(line, half, hot):
+    """Return the tuple of the hot cells in which a point of a line lies, in the order of its way."""
+    return tuple(cell for cell in cells_on(line, half) if cell in hot)
+
+
+def chains(pieces, half):
+    """Return the list of the chains of all pieces."""
+    hot = reasons(pieces, half)
+    return [hot_on(piece, half, hot) for piece in pieces]
+
+
+def led_again(pieces, half, times):
+    """Return the list of all chains that have been led again so many times."""
+    hot = reasons(pieces, half)
+    rows = chains(pieces, half)
+    for _ in range(times):
+        for index, row in enumerate(rows):
+            centres = [(2 * i * half, 2 * j * half) for i, j in row]
+            cells = [cell for one, other in pairwise(centres) for cell in hot_on(one + other, half, hot)]
+            rows[index] = tuple(cell for cell, _ in groupby(cells)) if cells else row
+    return rows
+
+
+def points_of(pieces, index):
+    """Return the set of the ends and the points of meeting of a piece, as the document writes points."""
+    x, y, x2, y2 = pieces[index]
+    found = {((x, 1), (y, 1)), ((x2, 1), (y2, 1))}
+    return found | {shared(pieces[index], other) for at, other in enumerate(pieces) if at != index} - {None}
+
+
+def nothing_together(pieces, half):
+    """Tell whether nothing falls together."""
+    points = set().union(*[points_of(pieces, index) for index in range(len(pieces))])
+    if len({cell_of(point, half) for point in points}) < len(points):
+        return False
+    for index, row in enumerate(chains(pieces, half)):
+        if set(row) - {cell_of(point, half) for point in points_of(pieces, index)}:
+            return False
+    return True
+
+
+def order_on(pieces, index):
+    """Return the tuple of all pieces that meet a piece, by the squares of the distances from its first end."""
+    x, y = pieces[index][:2]
+    found = []
+    for other, piece in enumerate(pieces):
+        point = shared(pieces[index], piece) if other != index else None
+        if point is not None:
+            found.append(((Fraction(*point[0]) - x) ** 2 + (Fraction(*point[1]) - y) ** 2, other))
+    return tuple(other for _, other in sorted(found))

@@ -32,10 +32,61 @@ WRONG_HALF = '''
 raises InvalidHalf()
 '''
 
+FALLING = '''
+>>> from ledlines.drawings import Drawing
+>>> from ledlines.falling import apart_halves, edges, greatest_half, on_cell, order_on, together
+>>> drawing, beside = Drawing(((0, 0, 8, 4), (0, 4, 8, 0))), Drawing(((0, 0, 8, 0), (0, 6, 8, 6)))
+>>> told = [together(drawing, 2), together(beside, 7), on_cell(drawing, 2, (1, 1)), greatest_half(drawing)]
+>>> told = told + [apart_halves(beside, 0, 1), order_on(drawing, 0)]
+>>> told + [edges(drawing, 2)]
+[[], [(0, 1)], (0, 1), 2, [1, 2, 3, 4, 5, 6], (1,), {((0, 0), (1, 1)): (0,), ((0, 1), (1, 1)): (1,), ((1, 1), (2, 0)): (1,), ((1, 1), (2, 1)): (0,)}]
+'''
+
+SAME_PIECE = '''
+>>> from ledlines.drawings import Drawing
+>>> from ledlines.falling import apart_halves
+>>> apart_halves(Drawing(((0, 0, 8, 4),)), 0, 0)
+raises SamePiece()
+'''
+
+AGAIN = '''
+>>> from ledlines.again import far_cells, led_again, still_after
+>>> from ledlines.drawings import Drawing
+>>> drawing = Drawing(((0, 0, 8, 4), (0, 4, 8, 0)))
+>>> [led_again(drawing, 2, 1), still_after(drawing, 2), far_cells(drawing, 2)]
+[[((0, 0), (1, 1), (2, 1)), ((0, 1), (1, 1), (2, 1), (2, 0))], 1, (1,)]
+'''
+
+WRONG_NUMBER = '''
+>>> from ledlines.again import led_again
+>>> from ledlines.drawings import Drawing
+>>> led_again(Drawing(()), 2, 100)
+raises InvalidNumber()
+'''
+
+CHANGES = '''
+>>> from ledlines.changes import ends_alike, led_alike, parting_halves, put_in, same_end_halves, taken_out
+>>> from ledlines.drawings import Drawing
+>>> drawing, beside = Drawing(((0, 0, 8, 4), (0, 4, 8, 0))), Drawing(((0, 0, 8, 0), (0, 6, 8, 6)))
+>>> moved = Drawing(((1, 0, 8, 0), (0, 6, 8, 6)))
+>>> told = [put_in(beside, (0, 3, 8, 3), 2), taken_out(drawing, 1, 2), led_alike(beside, moved, 2)]
+>>> told + [parting_halves(beside, moved), ends_alike(2, (5, 1)), same_end_halves((0, 0), (29, 0))]
+[(((0, 1), (2, 1)), ()), (((0, 1), (1, 1), (2, 0)), (0,)), True, [1], ((2, 0), (5, 1)), [30]]
+'''
+
+WRONG_PIECE = '''
+>>> from ledlines.changes import put_in
+>>> from ledlines.drawings import Drawing
+>>> put_in(Drawing(((0, 0, 8, 0),)), (1, 0, 5, 0), 2)
+raises InvalidPiece()
+'''
+
+EXAMPLES = (MEETINGS, WRONG_DRAWING, CELLS, WRONG_HALF, FALLING, SAME_PIECE, AGAIN, WRONG_NUMBER, CHANGES, WRONG_PIECE)
+
 
 class ExamplesTest(unittest.TestCase):
     def test_examples(self):
-        for text in (MEETINGS, WRONG_DRAWING, CELLS, WRONG_HALF):
+        for text in EXAMPLES:
             with self.subTest(text=text):
                 found, expected = run_example(text)
                 self.assertEqual(found, expected)
