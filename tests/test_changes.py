@@ -148,8 +148,8 @@ class LedAlikeTest(unittest.TestCase):
         self.assertIs(led_alike(BESIDE, turned, 2), False)
         self.assertIs(led_alike(BESIDE, turned, 30), True)
 
-    def test_hot_cells_on_the_way_count(self):
-        # The third pieces make (3, 0) hot in one drawing alone.
+    def test_all_pieces_count(self):
+        # At the half 3, (15, 3) and (12, 3) lie in different cells, at the half 4 in the same one.
         one, other = Drawing(((0, 0, 30, 0), (15, 3, 15, 30))), Drawing(((0, 0, 30, 0), (12, 3, 15, 30)))
         self.assertIs(led_alike(one, other, 3), False)
         self.assertIs(led_alike(one, other, 4), True)

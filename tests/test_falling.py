@@ -3,7 +3,7 @@
 import unittest
 
 import oracle
-from ledlines.cells import chains
+from ledlines.cells import chains, row_of
 from ledlines.drawings import Drawing
 from ledlines.errors import InvalidHalf, SamePiece, UnknownPiece
 from ledlines.falling import apart_halves, edges, greatest_half, on_cell, order_on, together
@@ -29,17 +29,12 @@ class TogetherTest(unittest.TestCase):
                 self.assertEqual(together(drawing, half), [])
 
     def test_a_cell_that_only_another_piece_makes_hot(self):
+        # Both come through (3, 3), which is not hot without the third piece.
         pieces = ((10, 50, 50, 10), (10, 44, 44, 10))
+        for index in (0, 1):
+            self.assertIn((3, 3), row_of(Drawing(pieces), 5, index))
         self.assertEqual(together(Drawing(pieces), 5), [])
         self.assertEqual(together(Drawing(pieces + ((28, 29, 29, 28),)), 5), [(0, 1), (0, 2), (1, 2)])
-
-    def test_a_cell_that_is_not_hot_does_not_count(self):
-        # Both come through (2, 1), in which nothing ends.
-        drawing = Drawing(((0, 0, 16, 8), (5, 4, 20, 4)))
-        self.assertEqual(together(drawing, 1), [])
-        drawing = Drawing(((0, 5, 40, 5), (10, 4, 30, 4)))
-        self.assertEqual(together(drawing, 1), [])
-        self.assertEqual(together(drawing, 2), [(0, 1)])
 
     def test_ends_on_a_border(self):
         # At the half 3 a border stands at 9: 9 lies behind it, 8 before it.
