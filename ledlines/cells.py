@@ -1,6 +1,6 @@
 """Hot cells of a drawing on a grid, and the rows of cells through which its pieces come."""
 
-from ledlines.drawings import check_index, index_pairs, is_number, meeting, whole_point
+from ledlines.drawings import GREATEST_COORDINATE, check_index, index_pairs, is_number, meeting, whole_point
 from ledlines.errors import InvalidHalf
 
 GREATEST_HALF = 30
@@ -30,12 +30,27 @@ def cell_of(point, half):
     return (cell_number(x, half), cell_number(y, half))
 
 
+def end_cell(point, half):
+    """Return the cell in which an end, a tuple of two integers, lies."""
+    return cell_of(whole_point(point[0], point[1]), half)
+
+
+def ends_in(cell, half):
+    """Return (lowest, highest): the least and the greatest coordinates of ends in a cell of the board."""
+    i, j = cell
+    lowest = (max(0, (2 * i - 1) * half), max(0, (2 * j - 1) * half))
+    # The right and upper borders of a cell belong to the next ones.
+    highest_x = min(GREATEST_COORDINATE, (2 * i + 1) * half - 1)
+    highest_y = min(GREATEST_COORDINATE, (2 * j + 1) * half - 1)
+    return (lowest, (highest_x, highest_y))
+
+
 def marks(drawing, half):
     """Return the list of (cell, reason) for all that makes cells hot."""
     found = []
-    for piece, (x, y, x2, y2) in enumerate(drawing.pieces):
-        found.append((cell_of(whole_point(x, y), half), (piece, 0)))
-        found.append((cell_of(whole_point(x2, y2), half), (piece, 1)))
+    for index, piece in enumerate(drawing.pieces):
+        found.append((end_cell(piece[:2], half), (index, 0)))
+        found.append((end_cell(piece[2:], half), (index, 1)))
     for one, other in index_pairs(len(drawing)):
         point = meeting(drawing, one, other)
         if point is not None:

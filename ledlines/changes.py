@@ -1,7 +1,7 @@
 """What a piece changes that is put in or taken out, and which drawings and ends are led alike."""
 
-from ledlines.cells import all_halves, cell_of, chains, check_half, hot_cells
-from ledlines.drawings import GREATEST_COORDINATE, Drawing, check_index, is_number, whole_point
+from ledlines.cells import all_halves, chains, check_half, end_cell, ends_in, hot_cells
+from ledlines.drawings import GREATEST_COORDINATE, Drawing, check_index, is_number
 from ledlines.errors import InvalidDrawing, InvalidPiece, InvalidPoint, UnlikeCounts
 
 
@@ -13,6 +13,12 @@ def with_piece(drawing, piece):
         raise InvalidPiece("there is no drawing with this piece behind all others") from None
 
 
+def without_piece(drawing, piece):
+    """Return the drawing without one of its pieces; raise UnknownPiece if there is no such piece."""
+    check_index(drawing, piece)
+    return Drawing(drawing.pieces[:piece] + drawing.pieces[piece + 1:])
+
+
 def put_in(drawing, piece, half):
     """Return (cells, pieces): the cells that become hot by a piece, and the other pieces whose chains change."""
     more = with_piece(drawing, piece)
@@ -22,8 +28,7 @@ def put_in(drawing, piece, half):
 
 def taken_out(drawing, piece, half):
     """Return (cells, pieces): the cells not hot without a piece, and the other pieces whose chains change."""
-    check_index(drawing, piece)
-    rest = Drawing(drawing.pieces[:piece] + drawing.pieces[piece + 1:])
+    rest = without_piece(drawing, piece)
     still_hot = hot_cells(rest, half)
     cells = [cell for cell in hot_cells(drawing, half) if cell not in still_hot]
     rows = chains(drawing, half)
@@ -50,21 +55,11 @@ def check_point(point):
         raise InvalidPoint("a point has two numbers from 0 to 60")
 
 
-def end_cell(point, half):
-    """Return the cell in which a point of two integers lies."""
-    return cell_of(whole_point(point[0], point[1]), half)
-
-
 def ends_alike(half, point):
     """Return (lowest, highest): the least and the greatest coordinates of ends in the cell of a point."""
     check_half(half)
     check_point(point)
-    i, j = end_cell(point, half)
-    lowest = (max(0, (2 * i - 1) * half), max(0, (2 * j - 1) * half))
-    # The right and upper borders of a cell belong to the next ones.
-    highest_x = min(GREATEST_COORDINATE, (2 * i + 1) * half - 1)
-    highest_y = min(GREATEST_COORDINATE, (2 * j + 1) * half - 1)
-    return (lowest, (highest_x, highest_y))
+    return ends_in(end_cell(point, half), half)
 
 
 def same_end_halves(one, other):

@@ -158,3 +158,47 @@ def order_on(pieces, index):
         if point is not None:
             found.append(((Fraction(*point[0]) - x) ** 2 + (Fraction(*point[1]) - y) ** 2, other))
     return tuple(other for _, other in sorted(found))
+
+
+def board(half):
+    """Return the ascending list of all cells of the board."""
+    numbers = sorted({number_in(value, half) for value in range(61)})
+    return [(i, j) for i in numbers for j in numbers]
+
+
+def touched(pieces, half):
+    """Return the ascending tuple of all cells in which a point of a piece lies."""
+    return tuple(sorted(set().union(*[cells_on(piece, half) for piece in pieces])))
+
+
+def are_beside(one, other):
+    """Tell whether two cells are beside each other by a side."""
+    return abs(one[0] - other[0]) + abs(one[1] - other[1]) == 1
+
+
+def ways(free):
+    """Return a dict from pairs of cells to the least numbers of steps between them, by letting ways get shorter."""
+    steps = {(one, other): 1 for one in free for other in free if are_beside(one, other)}
+    steps |= {(cell, cell): 0 for cell in free}
+    for middle in free:
+        before = [(one, steps[one, middle]) for one in free if (one, middle) in steps]
+        for one, many in before:
+            for other, more in before:
+                steps[one, other] = min(steps.get((one, other), many + more), many + more)
+    return steps
+
+
+def square_offset(point, piece):
+    """Return the square of the distance of a point from a piece, by the share of its way that is nearest."""
+    x, y, x2, y2 = piece
+    way = (x2 - x, y2 - y)
+    share = Fraction((point[0] - x) * way[0] + (point[1] - y) * way[1], way[0] ** 2 + way[1] ** 2)
+    share = min(max(share, Fraction(0)), Fraction(1))
+    return (x + share * way[0] - point[0]) ** 2 + (y + share * way[1] - point[1]) ** 2
+
+
+@cache
+def ends_in(cell, half):
+    """Return the ascending list of all points of a cell that can be ends."""
+    numbers = [number_in(value, half) for value in range(61)]
+    return [(x, y) for x in range(61) for y in range(61) if (numbers[x], numbers[y]) == cell]

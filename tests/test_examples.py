@@ -81,7 +81,53 @@ WRONG_PIECE = '''
 raises InvalidPiece()
 '''
 
-EXAMPLES = (MEETINGS, WRONG_DRAWING, CELLS, WRONG_HALF, FALLING, SAME_PIECE, AGAIN, WRONG_NUMBER, CHANGES, WRONG_PIECE)
+BOARDS = '''
+>>> from ledlines.boards import fewest_hot, hot_between, hot_counts, regions, steps_between, touched
+>>> from ledlines.drawings import Drawing
+>>> one = Drawing(((0, 0, 12, 0), (4, 0, 4, 8)))
+>>> found = [touched(one, 2), len(regions(one, 2)), steps_between(one, 2, (0, 1), (2, 1))]
+>>> found + [hot_counts(one)[1], fewest_hot(one), hot_between(one, 1, 2)]
+[((0, 0), (1, 0), (1, 1), (1, 2), (2, 0), (3, 0)), 1, 6, 4, (13, 1), ((0, 0), (4, 0), (4, 8), (12, 0))]
+'''
+
+WRONG_GRID = '''
+>>> from ledlines.boards import touched
+>>> from ledlines.drawings import Drawing
+>>> touched(Drawing(()), 31)
+raises InvalidHalf()
+'''
+
+MEASURES = '''
+>>> from ledlines.measures import first_piece, moves_of, offsets, piece_count, shared_moves, whole_count, worst_offset
+>>> from ledlines.drawings import Drawing
+>>> one = Drawing(((0, 0, 3, 3), (0, 1, 9, 1)))
+>>> found = [offsets(one, 1, 0), worst_offset(one, 5), moves_of(one, 1, 1), shared_moves(one, 5)]
+>>> found + [piece_count(30, (0, 0), (1, 0)), first_piece(2, (1, 0), (0, 0)), whole_count(2, ((0, 0),))]
+[[(0, 1), (0, 1), (2, 1)], ((2, 1), 1, (1, 0)), 5, 1, 837000, (2, 0, 0, 0), 12]
+'''
+
+WRONG_CELL = '''
+>>> from ledlines.measures import piece_count
+>>> piece_count(2, (0, 0), (16, 0))
+raises InvalidCell()
+'''
+
+SKETCH = '''
+>>> from ledlines.sketches import Sketch
+>>> sketch = Sketch(2)
+>>> found = sketch.apply_all([("put", (0, 0, 12, 0)), ("put", (4, 0, 4, 8)), ("turn", 0), ("regrid", 30), ("take", 1)])
+>>> [found, sketch.hot_now, sketch.undo(), sketch.undo(), sketch.half_now, sketch.hot_now]
+[[2, 2, ((3, 0), (1, 0), (0, 0)), 1, 0], ((0, 0),), True, True, 2, ((0, 0), (1, 0), (1, 2), (3, 0))]
+'''
+
+WRONG_PUT = '''
+>>> from ledlines.sketches import Sketch
+>>> Sketch(2).put((0, 0, 0, 0))
+raises InvalidPiece()
+'''
+
+EXAMPLES = (MEETINGS, WRONG_DRAWING, CELLS, WRONG_HALF, FALLING, SAME_PIECE, AGAIN, WRONG_NUMBER, CHANGES, WRONG_PIECE,
+            BOARDS, WRONG_GRID, MEASURES, WRONG_CELL, SKETCH, WRONG_PUT)
 
 
 class ExamplesTest(unittest.TestCase):
