@@ -126,8 +126,67 @@ WRONG_PUT = '''
 raises InvalidPiece()
 '''
 
+WATCHER = '''
+>>> from ledlines.watching import Watcher
+>>> from ledlines.drawings import Drawing
+>>> watcher = Watcher((Drawing(((0, 0, 4, 0),)), Drawing(((0, 0, 8, 0),)), Drawing(((0, 0, 4, 0), (0, 0, 0, 8)))), 2)
+>>> found = [watcher.sure_cells(), watcher.open_cells(), watcher.best_cell(), watcher.seen((1, 0), True)]
+>>> found + [watcher.possible, watcher.best_cell(), watcher.told_so_far]
+[((0, 0),), ((0, 2), (1, 0), (2, 0)), (0, 2), 2, (0, 2), (0, 2), [((1, 0), True)]]
+'''
+
+NO_DRAWING = '''
+>>> from ledlines.watching import Watcher
+>>> from ledlines.drawings import Drawing
+>>> Watcher((Drawing(()),), 30).seen((0, 0), True)
+raises NoDrawing()
+'''
+
+NOTATION = r'''
+>>> from ledlines.notation import chain_text, format_drawing, parse_drawing, picture
+>>> from ledlines.drawings import Drawing
+>>> one = Drawing(((0, 0, 60, 0),))
+>>> [picture(one, 15), chain_text(one, 15, 0), format_drawing(one), parse_drawing(format_drawing(one)) == one]
+['...\n...\n#+#', '(0,0)-(2,0)', 'piece 0 0 60 0', True]
+'''
+
+WRONG_TEXT = '''
+>>> from ledlines.notation import parse_drawing
+>>> parse_drawing("piece 0 0 61 0")
+raises InvalidText(row=0, word=3)
+'''
+
+CODE = '''
+>>> from ledlines.codec import decode_drawing, encode_drawing
+>>> from ledlines.drawings import Drawing
+>>> values = encode_drawing(Drawing(((1, 2, 3, 4),)))
+>>> [values, decode_drawing(values).pieces]
+[[109, 1, 1, 2, 3, 4, 74], ((1, 2, 3, 4),)]
+'''
+
+WRONG_CODE = '''
+>>> from ledlines.codec import decode_drawing
+>>> decode_drawing([109, 7])
+raises DecodeError(offset=1)
+'''
+
+SCRIPT = r'''
+>>> from ledlines.scripts import run_script
+>>> lines = ["put 0 0 12 0", "show", "when 3 0", "chain 0", "turn 0", "end", "repeat 2", "regrid 30", "end", "show"]
+>>> sketch, output = run_script(2, "\n".join(lines))
+>>> [output, sketch.drawing_now.pieces, len(sketch.history)]
+[['2', '(0,0)-(3,0)', '1'], ((12, 0, 0, 0),), 4]
+'''
+
+FAILING_SCRIPT = '''
+>>> from ledlines.scripts import run_script
+>>> run_script(2, "take 0")
+raises ExecutionFailed(row=0)
+'''
+
 EXAMPLES = (MEETINGS, WRONG_DRAWING, CELLS, WRONG_HALF, FALLING, SAME_PIECE, AGAIN, WRONG_NUMBER, CHANGES, WRONG_PIECE,
-            BOARDS, WRONG_GRID, MEASURES, WRONG_CELL, SKETCH, WRONG_PUT)
+            BOARDS, WRONG_GRID, MEASURES, WRONG_CELL, SKETCH, WRONG_PUT, WATCHER, NO_DRAWING, NOTATION, WRONG_TEXT,
+            CODE, WRONG_CODE, SCRIPT, FAILING_SCRIPT)
 
 
 class ExamplesTest(unittest.TestCase):

@@ -76,6 +76,33 @@ class LanguageTest(unittest.TestCase):
         for name, node in nodes((ast.arg, ast.FunctionDef, ast.ClassDef)):
             self.assertNotIn(getattr(node, "arg", getattr(node, "name", None)), dir(builtins), name)
 
+    def test_names_of_imports_and_classes_mean_one_thing(self):
+        for name, tree in trees():
+            imports = [alias.name for node in tree.body if isinstance(node, ast.ImportFrom) for alias in node.names]
+            bound = imports + [node.name for node in tree.body if isinstance(node, (ast.FunctionDef, ast.ClassDef))]
+            self.assertEqual(len(bound), len(set(bound)), name)
+            others = [node.arg for node in ast.walk(tree) if isinstance(node, ast.arg)]
+            others += [node.id for node in ast.walk(tree) if isinstance(node, ast.Name) and isinstance(node.ctx, ast.Store)]
+            self.assertEqual(set(bound) & set(others), set(), name)
+            used = [node.id for node in ast.walk(tree) if isinstance(node, ast.Name)]
+            self.assertEqual(set(imports) - set(used), set(), name)
+
+    def test_no_two_files_import_from_each_other(self):
+        needs = {path.stem: [] for path in PATHS}
+        for name, node in nodes(ast.ImportFrom):
+            if node.module not in LIBRARY:
+                needs[name.removesuffix(".py")].append(node.module.removeprefix("ledlines."))
+        while needs:
+            ready = [name for name, files in needs.items() if not set(files) & set(needs)]
+            self.assertNotEqual(ready, [], needs)
+            for name in ready:
+                del needs[name]
+
+    def test_names_of_methods_are_no_names_of_attributes(self):
+        methods = {node.name for _, kind in nodes(ast.ClassDef) for node in kind.body if isinstance(node, ast.FunctionDef)}
+        stored = {node.attr for _, node in nodes(ast.Attribute) if isinstance(node.ctx, ast.Store)}
+        self.assertEqual(methods & stored, set())
+
     def test_methods(self):
         own = {node.name for _, node in nodes(ast.FunctionDef)} | {"__init__"}
         for name, node in nodes(ast.Call):

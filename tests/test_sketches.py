@@ -599,8 +599,8 @@ class ModelTest(unittest.TestCase):
 
 class InterfaceTest(unittest.TestCase):
     def test_methods_stand_in_the_class_itself(self):
-        names = ("drawing_now", "half_now", "hot_now", "kept_under", "history", "put", "take", "regrid", "fetch", "turn",
-                 "keep_as", "undo", "redo", "apply_all", "tried_out", "replay", "__init__")
+        names = ("drawing_now", "half_now", "hot_now", "kept_under", "history", "put", "take", "regrid", "fetch",
+                 "turn", "keep_as", "undo", "redo", "apply_all", "tried_out", "replay", "__init__")
         self.assertLessEqual(set(names), set(vars(Sketch)))
         self.assertLessEqual({"__init__", "__enter__", "__exit__", "hold"}, set(vars(Trial)))
         self.assertEqual([Sketch.__module__, Trial.__module__], ["ledlines.sketches"] * 2)
