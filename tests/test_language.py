@@ -81,11 +81,11 @@ class LanguageTest(unittest.TestCase):
             imports = [alias.name for node in tree.body if isinstance(node, ast.ImportFrom) for alias in node.names]
             bound = imports + [node.name for node in tree.body if isinstance(node, (ast.FunctionDef, ast.ClassDef))]
             self.assertEqual(len(bound), len(set(bound)), name)
+            names = [node for node in ast.walk(tree) if isinstance(node, ast.Name)]
             others = [node.arg for node in ast.walk(tree) if isinstance(node, ast.arg)]
-            others += [node.id for node in ast.walk(tree) if isinstance(node, ast.Name) and isinstance(node.ctx, ast.Store)]
+            others += [node.id for node in names if isinstance(node.ctx, ast.Store)]
             self.assertEqual(set(bound) & set(others), set(), name)
-            used = [node.id for node in ast.walk(tree) if isinstance(node, ast.Name)]
-            self.assertEqual(set(imports) - set(used), set(), name)
+            self.assertEqual(set(imports) - {node.id for node in names}, set(), name)
 
     def test_no_two_files_import_from_each_other(self):
         needs = {path.stem: [] for path in PATHS}
@@ -99,7 +99,8 @@ class LanguageTest(unittest.TestCase):
                 del needs[name]
 
     def test_names_of_methods_are_no_names_of_attributes(self):
-        methods = {node.name for _, kind in nodes(ast.ClassDef) for node in kind.body if isinstance(node, ast.FunctionDef)}
+        bodies = [node for _, kind in nodes(ast.ClassDef) for node in kind.body]
+        methods = {node.name for node in bodies if isinstance(node, ast.FunctionDef)}
         stored = {node.attr for _, node in nodes(ast.Attribute) if isinstance(node.ctx, ast.Store)}
         self.assertEqual(methods & stored, set())
 
