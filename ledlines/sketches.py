@@ -209,19 +209,19 @@ class Trial:
 
     def __init__(self, sketch):
         self.sketch = sketch
-        self.course = sketch.course
-        self.held = False
+        # The course to which the end of a block returns, None where it returns to none.
+        self.before = None
 
     def __enter__(self):
-        self.course = self.sketch.course
-        self.held = False
+        # Each block begins with its own course, so that hold counts in the block alone in which it is called.
+        self.before = self.sketch.course
         return self
 
     def __exit__(self, kind, value, trace):
         sketch = self.sketch
-        if not self.held:
-            sketch.course = self.course
+        if self.before is not None:
+            sketch.course = self.before
 
     def hold(self):
         """Keep what the block changes."""
-        self.held = True
+        self.before = None

@@ -30,6 +30,48 @@ def nodes(kind):
     return [(name, node) for name, tree in trees() for node in ast.walk(tree) if isinstance(node, kind)]
 
 
+def is_test_of_exit(node):
+    """Tell whether an `if` in `__exit__` may ask this: a class of the package has `__eq__` and `__len__`."""
+    if isinstance(node, ast.BoolOp):
+        return all(is_test_of_exit(value) for value in node.values)
+    if isinstance(node, ast.UnaryOp) and isinstance(node.op, ast.Not):
+        return is_test_of_exit(node.operand)
+    if not isinstance(node, ast.Compare) or not isinstance(node.left, (ast.Name, ast.Attribute)):
+        return False
+    return isinstance(node.ops[0], (ast.Is, ast.IsNot)) and [ast.unparse(one) for one in node.comparators] == ["None"]
+
+
+def is_value_of_exit(node):
+    """Tell whether something may be assigned or appended in `__exit__`."""
+    if isinstance(node, (ast.List, ast.Tuple)):
+        return all(is_value_of_exit(value) for value in node.elts)
+    if isinstance(node, ast.BinOp):
+        fits = isinstance(node.op, ast.Add) or (isinstance(node.op, ast.Sub) and isinstance(node.right, ast.Constant))
+        return fits and is_value_of_exit(node.left) and is_value_of_exit(node.right)
+    return isinstance(node, (ast.Name, ast.Attribute, ast.Constant))
+
+
+def is_row_of_exit(node):
+    """Tell whether `__exit__` may have such a statement."""
+    if isinstance(node, ast.If):
+        return is_test_of_exit(node.test) and all(is_row_of_exit(row) for row in node.body + node.orelse)
+    if isinstance(node, ast.Assign):
+        to_name = isinstance(node.targets[0], ast.Name) and isinstance(node.value, ast.Attribute)
+        fits = to_name or (isinstance(node.targets[0], ast.Attribute) and is_value_of_exit(node.value))
+        return fits and len(node.targets) == 1
+    if isinstance(node, ast.AugAssign):
+        fits = isinstance(node.target, ast.Attribute) and isinstance(node.value, ast.Constant)
+        return fits and isinstance(node.op, (ast.Add, ast.Sub))
+    if isinstance(node, ast.Expr) and isinstance(node.value, ast.Call):
+        name = getattr(node.value.func, "attr", None)
+        return name in ("append", "clear") and all(is_value_of_exit(value) for value in node.value.args)
+    return isinstance(node, ast.Pass) or ast.unparse(node) in ("return", "return None", "return False")
+
+
+def statement(text):
+    return ast.parse(text).body[0]
+
+
 class LanguageTest(unittest.TestCase):
     def test_the_folder_contains_python_files_only(self):
         found = [path for path in FOLDER.rglob("*") if path.is_file() and path.suffix != ".pyc"]
@@ -68,6 +110,28 @@ class LanguageTest(unittest.TestCase):
         values = [(name, node.value) for name, node in nodes(ast.Constant)]
         self.assertEqual([found for found in values if isinstance(found[1], (float, complex))], [])
         self.assertEqual([found for found in values if isinstance(found[1], str) and "\x25" in found[1]], [])
+
+    def test_rows_of_exit(self):
+        exits = [(name, node) for name, node in nodes(ast.FunctionDef) if node.name == "__exit__"]
+        self.assertEqual([name for name, node in exits], ["sketches.py"])
+        for name, node in exits:
+            for row in node.body:
+                self.assertTrue(is_row_of_exit(row), (name, row.lineno))
+            locals_given = [row for row in ast.walk(node) if isinstance(row, ast.Name) and isinstance(row.ctx, ast.Store)]
+            self.assertLessEqual(len(locals_given), 1, name)
+            handed = [argument.arg for argument in node.args.args[1:]]
+            reads = [row.id for row in ast.walk(node) if isinstance(row, ast.Name) and row.id in handed]
+            self.assertLessEqual(set(reads), {"kind"}, name)
+
+    def test_rows_that_exit_must_not_have(self):
+        for row in ("if not self.held: pass", "if self.held: pass", "if self.n == 0: pass", "if self.a is True: pass",
+                    "if kind is None and self.n: pass", "if self.told() is None: pass", "if a is None is None: pass",
+                    "if kind is None: self.told()", "self.n = -1", "self.n = self.told()", "a = 5", "self.n *= 2",
+                    "self.rows.pop()", "return True", "for a in b: pass", "self.n = a - b", "self.rows[0] = 1"):
+            self.assertFalse(is_row_of_exit(statement(row)), row)
+        for row in ("if not (kind is None or self.a is not None): self.n += 1", "self.n = (a, self.n - 1)", "return",
+                    "self.rows.append(a)", "self.rows.clear()", "box = self.box", "pass", "return False"):
+            self.assertTrue(is_row_of_exit(statement(row)), row)
 
     def test_builtins(self):
         for name, node in nodes(ast.Name):

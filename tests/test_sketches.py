@@ -1,6 +1,8 @@
 """Promises 1, 22 and 23: a sketch, its operations, undo and redo, lists of operations, and trials."""
 
 import unittest
+from contextlib import suppress
+from itertools import product
 from random import Random
 
 from ledlines import errors
@@ -502,16 +504,56 @@ class TrialTest(unittest.TestCase):
                     self.assertEqual(len(sketch.drawing_now), 1 + inner_holds)
                 self.assertEqual(len(sketch.drawing_now), (1 + inner_holds) * outer_holds)
 
-    def test_one_behind_the_other(self):
+    def test_held_in_the_first_block_alone(self):
         sketch = Sketch(2)
         trial = Trial(sketch)
         sketch.put((0, 0, 12, 0))
         with trial:
             sketch.put((4, 0, 4, 8))
+            sketch.regrid(9)
+            sketch.undo()
             trial.hold()
+        before = told(sketch)
         with trial:
             sketch.put((9, 9, 1, 1))
+            sketch.keep_as("a")
+        self.assertEqual(told(sketch), before)
         self.assertEqual(sketch.drawing_now, angle().drawing_now)
+        self.assertIs(sketch.redo(), True)
+        self.assertEqual((sketch.half_now, len(sketch.history)), (9, 3))
+
+    def test_one_trial_for_several_blocks(self):
+        operations = [("undo",), ("regrid", 5), ("turn", 0), ("undo",)]
+        for holds in product(("inside", "behind", "never"), repeat=3):
+            for fails in (False, True):
+                sketch, other = angle(), angle()
+                trial = Trial(sketch)
+                for held in holds:
+                    # What happens between the blocks stays, and a hold there counts in none of them.
+                    sketch.regrid(9)
+                    other.regrid(9)
+                    with suppress(KeyError), trial:
+                        sketch.apply_all(operations[:2])
+                        if held == "inside":
+                            trial.hold()
+                        sketch.apply_all(operations[2:])
+                        if fails:
+                            raise KeyError("a")
+                    if held == "behind":
+                        trial.hold()
+                    if held == "inside":
+                        other.apply_all(operations)
+                    self.assertEqual(told(sketch), told(other))
+                self.assertEqual(to_the_end(sketch), to_the_end(other))
+
+    def test_hold_before_the_block(self):
+        sketch = angle()
+        trial = Trial(sketch)
+        self.assertIsNone(trial.hold())
+        with trial as held:
+            self.assertIs(held, trial)
+            sketch.take(0)
+        self.assertEqual(to_the_end(sketch), to_the_end(angle()))
 
     def test_two_sketches(self):
         one, other = angle(), angle()
